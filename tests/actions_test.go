@@ -28,6 +28,11 @@ func actionRules() []actionRule {
 	}
 }
 
+func ruleOf(kind int) actionRule {
+	n := slices.IndexFunc(actionRules(), func(rule actionRule) bool { return rule.kind == kind })
+	return actionRules()[n]
+}
+
 func action(kind int, from int, to int, amount int) impl.Action {
 	return impl.Action{Kind: kind, From: from, To: to, Amount: amount}
 }

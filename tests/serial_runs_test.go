@@ -26,29 +26,28 @@ func copyEffects(effects []impl.Effect) []impl.Effect {
 func plainSerial(s []impl.Entry, list []impl.Action) ([]impl.Entry, []impl.Effect) {
 	var effects []impl.Effect
 	for _, a := range list {
-		n := slices.IndexFunc(actionRules(), func(rule actionRule) bool { return rule.kind == a.Kind })
-		effects = append(effects, plainEffect(s, actionRules()[n], a))
+		effects = append(effects, plainEffect(s, ruleOf(a.Kind), a))
 		after, _ := plainAfter(s, a)
 		s = plainStore(after)
 	}
 	return s, effects
 }
 
-// busyActions are valid lists of up to MaxActions actions among few keys, so that most of them read what earlier ones have written.
-func busyActions() [][]impl.Action {
+// actionsAmong are valid lists of up to MaxActions actions of all kinds with those keys.
+func actionsAmong(keys ...int) [][]impl.Action {
 	// A fixed sequence of numbers, so that every run checks the same.
 	number := 2027
 	next := func(limit int) int {
 		number = (number*48271 + 11) % 2147483647
 		return number % limit
 	}
-	keys, amounts := []int{0, 1, 3, 31}, []int{0, 1, 4, 9, 500000, impl.MaxValue - 1, impl.MaxValue}
+	amounts := []int{0, 1, 4, 9, 500000, impl.MaxValue - 1, impl.MaxValue}
 	var lists [][]impl.Action
 	for round := range 44 {
 		var list []impl.Action
 		for range round % (impl.MaxActions + 1) {
 			rule := actionRules()[next(6)]
-			a := action(rule.kind, keys[next(4)], keys[next(4)], amounts[next(7)])
+			a := action(rule.kind, keys[next(len(keys))], keys[next(len(keys))], amounts[next(len(amounts))])
 			if rule.noTo {
 				a.To = 0
 			}
@@ -60,6 +59,11 @@ func busyActions() [][]impl.Action {
 		lists = append(lists, list)
 	}
 	return lists
+}
+
+// busyActions are among few keys, so that most of them read what earlier ones have written.
+func busyActions() [][]impl.Action {
+	return actionsAmong(0, 1, 3, 31)
 }
 
 // serialActions are lists without actions, with one, with several and with MaxActions of them.
@@ -516,6 +520,21 @@ func TestStoresOfRunsShareNoMemory(t *testing.T) {
 	})
 }
 
+// spoilEffects writes over one effect after the other, and checks that this is not seen in the next ones.
+func spoilEffects(t *testing.T, effects []impl.Effect, kept []impl.Effect) {
+	t.Helper()
+	for n := range effects {
+		spoil(effects[n].Reads)
+		if !slices.Equal(effects[n].Writes, kept[n].Writes) || !sameEffects(effects[n+1:], kept[n+1:]) {
+			t.Errorf("with the reads of effect %d written over the effects are %+v", n, effects)
+		}
+		spoil(effects[n].Writes)
+		if !sameEffects(effects[n+1:], kept[n+1:]) {
+			t.Errorf("with the writes of effect %d written over the effects are %+v", n, effects)
+		}
+	}
+}
+
 // What is written over one effect of a run is seen in no other one, nor in the store.
 func TestEffectsOfRunsShareNoMemory(t *testing.T) {
 	for _, s := range sampleStores() {
@@ -523,16 +542,7 @@ func TestEffectsOfRunsShareNoMemory(t *testing.T) {
 			store := append(slices.Clone(s), storeOf(40, 40, 41, 41)...)
 			after, effects := mustRun(t, store[:len(s)], list)
 			want, kept := slices.Clone(after), copyEffects(effects)
-			for n := range effects {
-				spoil(effects[n].Reads)
-				if !slices.Equal(effects[n].Writes, kept[n].Writes) || !sameEffects(effects[n+1:], kept[n+1:]) {
-					t.Errorf("with the reads of effect %d written over those of %+v are %+v", n, list, effects)
-				}
-				spoil(effects[n].Writes)
-				if !sameEffects(effects[n+1:], kept[n+1:]) {
-					t.Errorf("with the writes of effect %d written over those of %+v are %+v", n, list, effects)
-				}
-			}
+			spoilEffects(t, effects, kept)
 			if !slices.Equal(after, want) || !slices.Equal(store, append(slices.Clone(s), storeOf(40, 40, 41, 41)...)) {
 				t.Errorf("with the effects written over %v leads to %v and %v", s, after, store)
 			}
