@@ -217,6 +217,17 @@ func conflictLists() [][]impl.Action {
 	return lists
 }
 
+// listsOfSix are lists of six actions with few, some and many conflicts.
+func listsOfSix() [][]impl.Action {
+	lists := [][]impl.Action{chainedActions(6), busyActions()[6], busyActions()[17]}
+	for _, list := range actionsAmong(0, 1, 2, 3, 4, 5, 6, 7) {
+		if len(list) == 6 {
+			lists = append(lists, list)
+		}
+	}
+	return append(append(lists, looseLists(6)...), tightLists(6)...)
+}
+
 // fewStores are some of the sample stores, the empty and the full ones among them.
 func fewStores() [][]impl.Entry {
 	stores := sampleStores()
@@ -528,14 +539,14 @@ func TestOrderFitsValues(t *testing.T) {
 	checkFits(t, actions(list[0], list[3]), []int{1, 0}, false)
 }
 
-// All orders of up to six actions, and many of more, against a rule for every two places.
+// Fitting against a rule for every two places: all orders of up to four actions, and of some lists of six, and many of others.
 func TestFittingIsExact(t *testing.T) {
 	for _, list := range conflictLists() {
 		for _, order := range append(ordersOf(len(list)), fittingOrders(list)...) {
 			checkFits(t, list, order, plainFits(list, order))
 		}
 	}
-	for _, list := range slices.Concat(actionsAmong(0, 1, 3, 31)[5:7], actionsAmong(0, 1, 2, 3, 4, 5, 6, 7)[16:18], looseLists(6), tightLists(6)) {
+	for _, list := range listsOfSix() {
 		eachOrder(len(list), func(order []int) { checkFits(t, list, order, plainFits(list, order)) })
 	}
 }
@@ -567,7 +578,7 @@ func TestEffectsAreInTheOrderOfTheNumbers(t *testing.T) {
 	})
 }
 
-// P2: all orders that fit lead to the store and the effects of the serial run; all others to nothing.
+// P2: orders that fit lead to the store and the effects of the serial run; others to nothing.
 func TestFittingOrdersLeadToTheSame(t *testing.T) {
 	fitting, others := 0, 0
 	for _, list := range conflictLists() {
@@ -589,6 +600,23 @@ func TestFittingOrdersLeadToTheSame(t *testing.T) {
 	}
 	if fitting < 1000 || others < 1000 {
 		t.Errorf("%d orders that are not that of the numbers fit, and %d do not fit", fitting, others)
+	}
+}
+
+// P2, for all orders that there are of six actions.
+func TestAllFittingOrdersLeadToTheSame(t *testing.T) {
+	for _, list := range listsOfSix() {
+		eachOrder(len(list), func(order []int) {
+			fits := impl.OrderFits(list, order)
+			for _, s := range fewStores() {
+				if fits {
+					want, effects := mustRun(t, s, list)
+					checkRunOrder(t, s, list, order, want, effects)
+				} else {
+					checkRunOrder(t, s, list, order, nil, nil)
+				}
+			}
+		})
 	}
 }
 
