@@ -372,6 +372,8 @@ func checkNoTree(t *testing.T, tree impl.BlockTree) {
 	for _, b := range blocks {
 		checkPutBlock(t, tree, b, impl.BlockTree{}, false)
 	}
+	checkBranchLayers(t, tree, nil)
+	checkRightBlocks(t, tree, nil)
 	for n := -1; n <= len(tree.Blocks); n++ {
 		checkPath(t, tree, n, nil)
 		checkBefore(t, tree, 0, n, false)
