@@ -371,7 +371,11 @@ func checkNoTree(t *testing.T, tree impl.BlockTree) {
 	}
 	for _, b := range blocks {
 		checkPutBlock(t, tree, b, impl.BlockTree{}, false)
+		c := cert(impl.BlockSum(b), b.View, 15)
+		checkCertBlock(t, tree, c, -1)
+		checkCertified(t, tree, []impl.Cert{c}, nil)
 	}
+	checkCertified(t, tree, nil, nil)
 	checkBranchLayers(t, tree, nil)
 	checkRightBlocks(t, tree, nil)
 	for n := -1; n <= len(tree.Blocks); n++ {
