@@ -374,8 +374,10 @@ func checkNoTree(t *testing.T, tree impl.BlockTree) {
 		c := cert(impl.BlockSum(b), b.View, 15)
 		checkCertBlock(t, tree, c, -1)
 		checkCertified(t, tree, []impl.Cert{c}, nil)
+		checkNoCommits(t, tree, []impl.Cert{c})
 	}
 	checkCertified(t, tree, nil, nil)
+	checkNoCommits(t, tree, nil)
 	checkBranchLayers(t, tree, nil)
 	checkRightBlocks(t, tree, nil)
 	for n := -1; n <= len(tree.Blocks); n++ {
