@@ -687,6 +687,7 @@ func wrongTrees(t impl.BlockTree) []impl.BlockTree {
 
 // Everything that makes a tree invalid, by itself, in each of the trees of up to five blocks: all functions refuse it.
 func TestInvalidTrees(t *testing.T) {
+	t.Parallel()
 	count := 0
 	eachSmallTree(func(tree impl.BlockTree) {
 		for _, wrong := range wrongTrees(tree) {
@@ -703,6 +704,7 @@ func TestInvalidTrees(t *testing.T) {
 }
 
 func TestInvalidGreatTrees(t *testing.T) {
+	t.Parallel()
 	for _, tree := range greatTrees() {
 		for i, wrong := range wrongTrees(tree) {
 			if i%7 == len(tree.Blocks)%7 {
@@ -889,6 +891,7 @@ func TestPutBlocksAreThere(t *testing.T) {
 
 // A put that makes a tree one of MaxBlocks, and one more, behind every block.
 func TestPutsUpToMaxBlocks(t *testing.T) {
+	t.Parallel()
 	eachTree(func(tree impl.BlockTree) {
 		if len(tree.Blocks) < 13 {
 			return
@@ -1038,6 +1041,7 @@ func TestWaysBeginWithTheFirstBlock(t *testing.T) {
 
 // P68: every block is on the way to itself, the first one to all, and no two to each other.
 func TestWaysAreInOrder(t *testing.T) {
+	t.Parallel()
 	eachTree(func(tree impl.BlockTree) {
 		for b := range tree.Blocks {
 			path := plainPath(tree, b)

@@ -516,6 +516,7 @@ func TestRightBlocksCanBeAnywhere(t *testing.T) {
 
 // Blocks over other stores, against the references: most are not right.
 func TestBlocksOverOtherStores(t *testing.T) {
+	t.Parallel()
 	right, wrong := 0, 0
 	eachRight(func(b impl.Block, s []impl.Entry) {
 		for _, other := range fewStores() {
@@ -699,6 +700,7 @@ func TestInvalidBlocksAreNotRight(t *testing.T) {
 
 // Behind a block there is none with actions that are not valid.
 func TestNextBlocksHaveValidActions(t *testing.T) {
+	t.Parallel()
 	for _, s := range fewStores() {
 		for _, list := range wrongLists() {
 			for _, b := range blocksBefore(s) {

@@ -194,6 +194,7 @@ func TestStoresAfterBlocks(t *testing.T) {
 
 // Behind every block, with the least view, a greater one and the greatest one, with no actions and with some.
 func TestTreesGrowBehindEveryBlock(t *testing.T) {
+	t.Parallel()
 	grown := 0
 	eachTree(func(tree impl.BlockTree) {
 		for n, b := range tree.Blocks {
@@ -234,6 +235,7 @@ func TestGrownBlocksAreRight(t *testing.T) {
 }
 
 func TestGrowTreeRefuses(t *testing.T) {
+	t.Parallel()
 	tree, put := eightBlocks(), actions(action(impl.ActPut, 9, 0, 5))
 	for _, n := range noBlockNumbers(8) {
 		checkNotGrown(t, tree, n, 1000, put)
@@ -263,6 +265,7 @@ func TestGrowTreeWithTheSameSum(t *testing.T) {
 
 // Grown trees share no memory with the tree before, with the actions, nor with another one.
 func TestGrownTreesShareNoMemory(t *testing.T) {
+	t.Parallel()
 	eachTree(func(tree impl.BlockTree) {
 		for n := -1; n < len(tree.Blocks); n++ {
 			list := busyActions()[(n+9)%11]
@@ -286,6 +289,7 @@ func TestGrownTreesShareNoMemory(t *testing.T) {
 }
 
 func TestStoresAfterBlocksShareNoMemory(t *testing.T) {
+	t.Parallel()
 	eachTree(func(tree impl.BlockTree) {
 		given := roomyTree(tree)
 		before := wholeTree(given)
@@ -464,6 +468,7 @@ func TestLayersShowAllBranches(t *testing.T) {
 }
 
 func TestLayersOfSampleTrees(t *testing.T) {
+	t.Parallel()
 	checkBranches(t, mixedBlocks())
 	eachTree(func(tree impl.BlockTree) { checkBranches(t, tree) })
 }
@@ -556,6 +561,7 @@ func TestRightBlocksAreBehindRightOnes(t *testing.T) {
 
 // A tree of right blocks has no others; with one of them wrong, in any way, that one and all behind it are, and the stores and layers stay.
 func TestOneWrongBlock(t *testing.T) {
+	t.Parallel()
 	for i, tree := range rightTrees() {
 		checkRightBlocks(t, tree, slices.Repeat([]bool{true}, len(tree.Blocks)))
 		layers := plainBranchLayers(tree)
@@ -579,6 +585,7 @@ func TestOneWrongBlock(t *testing.T) {
 
 // A block that is right over the store after another block is not right behind its own, unless it leads to the same there.
 func TestBlocksRightOverOtherStores(t *testing.T) {
+	t.Parallel()
 	counts := map[bool]int{}
 	list := actions(action(impl.ActCopy, 1, 0, 0), action(impl.ActAdd, 3, 1, 0), action(impl.ActTake, 31, 0, 7))
 	for _, tree := range rightTrees() {

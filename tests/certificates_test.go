@@ -302,6 +302,7 @@ func TestCertBlockValues(t *testing.T) {
 
 // P74: a certificate is for the block that has its sum and its view, right or not, with enough signers alone; without signers there is none.
 func TestCertificatesAreForOneBlock(t *testing.T) {
+	t.Parallel()
 	eachTree(func(tree impl.BlockTree) {
 		for n, b := range tree.Blocks {
 			sum := impl.BlockSum(b)
@@ -466,6 +467,7 @@ func isPart(marks []bool, others []bool) bool {
 
 // P75: the first block needs no certificate, every other one one that counts for it; without one of them, and with the first ones alone, no more are certified.
 func TestCertifiedBlocksHaveCertificates(t *testing.T) {
+	t.Parallel()
 	eachTree(func(tree impl.BlockTree) {
 		checkCertified(t, tree, nil, marksOf(len(tree.Blocks)))
 		for _, certs := range certLists(tree) {
@@ -565,6 +567,7 @@ func TestCertificatesForTheFirstBlockAlone(t *testing.T) {
 
 // With one thing wrong, or several, a certificate counts for no block and is not joined; it is no reason to refuse others beside it.
 func TestInvalidCertificates(t *testing.T) {
+	t.Parallel()
 	for _, tree := range append(smallTrees(), topTree(fullStore(1, 1))) {
 		for n := range tree.Blocks {
 			valid := certOf(tree, n, manySigners()[n%5])
@@ -577,6 +580,7 @@ func TestInvalidCertificates(t *testing.T) {
 
 // Also with too many certificates a tree that is not valid has no blocks.
 func TestCertificatesForInvalidTrees(t *testing.T) {
+	t.Parallel()
 	checkNoTree(t, impl.BlockTree{})
 	for _, tree := range wrongTrees(eightBlocks()) {
 		checkNoTree(t, tree)

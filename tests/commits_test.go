@@ -263,6 +263,7 @@ func TestCommitValues(t *testing.T) {
 
 // P77: behind every head are two blocks, certified, with the next two views, behind every other block there are none; heads ascend.
 func TestCommitsNeedThreeBlocks(t *testing.T) {
+	t.Parallel()
 	heads, apart := 0, 0
 	eachCommit(func(tree impl.BlockTree, certs []impl.Cert) {
 		checkPlainCommits(t, tree, certs)
@@ -291,6 +292,7 @@ func TestCommitsNeedThreeBlocks(t *testing.T) {
 
 // P78: it is a head, or the first block, and no head has a greater view, nor the same one and a lesser number.
 func TestHeadsHaveTheGreatestView(t *testing.T) {
+	t.Parallel()
 	eachCommit(func(tree impl.BlockTree, certs []impl.Cert) {
 		heads, to := impl.CommitHeads(tree, certs), impl.CommittedTo(tree, certs)
 		if to != 0 && !slices.Contains(heads, to) || to == 0 && len(heads) > 0 && heads[0] != 0 {
@@ -307,6 +309,7 @@ func TestHeadsHaveTheGreatestView(t *testing.T) {
 
 // P79: if they agree, all of them are on the way to the one up to which everything is committed; if not, some of them is not.
 func TestAgreeingCommitsAreOnOneWay(t *testing.T) {
+	t.Parallel()
 	eachCommit(func(tree impl.BlockTree, certs []impl.Cert) {
 		way := plainPath(tree, impl.CommittedTo(tree, certs))
 		isElsewhere := func(n int) bool { return !slices.Contains(way, n) }
@@ -571,6 +574,7 @@ func TestOrdersOfCommits(t *testing.T) {
 
 // Nothing is committed in a tree that is not valid, nor is the first block, also with too many certificates.
 func TestCommitsOfInvalidTrees(t *testing.T) {
+	t.Parallel()
 	checkNoCommits(t, impl.BlockTree{}, nil)
 	checkNoCommits(t, impl.BlockTree{}, make([]impl.Cert, 1))
 	checkNoCommits(t, impl.BlockTree{}, make([]impl.Cert, 31))
@@ -587,6 +591,7 @@ func TestCommitsOfInvalidTrees(t *testing.T) {
 
 // Looking for commits leaves the tree and the certificates as they are, also behind their ends; the answers share no memory with them nor with each other.
 func TestCommitHeadsShareNoMemory(t *testing.T) {
+	t.Parallel()
 	check := func(tree impl.BlockTree, list []impl.Cert) {
 		given := roomyTree(tree)
 		before := wholeTree(given)

@@ -605,6 +605,7 @@ func TestFittingOrdersLeadToTheSame(t *testing.T) {
 
 // P2, for all orders that there are of six actions.
 func TestAllFittingOrdersLeadToTheSame(t *testing.T) {
+	t.Parallel()
 	for _, list := range listsOfSix() {
 		eachOrder(len(list), func(order []int) {
 			fits := impl.OrderFits(list, order)
@@ -622,6 +623,7 @@ func TestAllFittingOrdersLeadToTheSame(t *testing.T) {
 
 // P2, by references alone: orders that are made to fit lead to the plain serial run over all stores, and so does that of levels.
 func TestOrdersThatAreMadeToFit(t *testing.T) {
+	t.Parallel()
 	for _, list := range conflictLists() {
 		orders := append(fittingOrders(list), impl.LevelOrder(list))
 		for _, s := range sampleStores() {

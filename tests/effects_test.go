@@ -303,6 +303,7 @@ func TestMovesUpToMaxValue(t *testing.T) {
 
 // Effects against a reference: the edges of amounts over all sample stores, and all pairs of keys over some.
 func TestEffectsAreExact(t *testing.T) {
+	t.Parallel()
 	eachRun(func(s []impl.Entry, rule actionRule, a impl.Action) {
 		checkRun(t, s, a, plainEffect(s, rule, a))
 	})

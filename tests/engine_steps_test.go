@@ -309,6 +309,7 @@ func checkEnd(t *testing.T, e impl.Engine) {
 
 // P4, from engines in which nothing, something or everything was tried, also if they were tried up to 900 times.
 func TestEnginesComeToAnEnd(t *testing.T) {
+	t.Parallel()
 	most := 0
 	eachEngine(func(e impl.Engine) {
 		checkEnd(t, e)
@@ -355,6 +356,7 @@ func oddEngines(t *testing.T, visit func(e impl.Engine)) {
 
 // P3 and P4, for engines that are valid, although no steps lead to them.
 func TestOddEnginesComeToAnEnd(t *testing.T) {
+	t.Parallel()
 	oddEngines(t, func(e impl.Engine) {
 		checkEnd(t, e)
 		checkSteps(t, e)
@@ -371,6 +373,7 @@ func TestOddEnginesComeToAnEnd(t *testing.T) {
 
 // P5, without EngineFinish: steps with actions in no order, until the engine is done by itself.
 func TestResultsAreThoseOfTheSerialRun(t *testing.T) {
+	t.Parallel()
 	number := 90125
 	eachNewEngine(func(e impl.Engine) {
 		for range 4 {
@@ -1065,6 +1068,7 @@ func engineMakers(e impl.Engine) []func(impl.Engine) impl.Engine {
 
 // What is written over an engine after steps is not seen in the one before, also not behind its lists, nor in another one, nor the other way round; and no lists of one engine share memory.
 func TestSteppedEnginesShareNoMemory(t *testing.T) {
+	t.Parallel()
 	someEngines(func(e impl.Engine) {
 		for i, maker := range engineMakers(e) {
 			given := roomyEngine(e)

@@ -484,6 +484,7 @@ func TestSteppedEnginesAreValid(t *testing.T) {
 
 // P55: a done engine has only checked actions, and with one of them tried or new it is not done any more.
 func TestDoneEnginesAreDone(t *testing.T) {
+	t.Parallel()
 	eachEngine(func(e impl.Engine) {
 		if impl.EngineDone(e) != allAreChecked(e.Slots) {
 			t.Errorf("EngineDone(%+v) = %v", e, impl.EngineDone(e))
@@ -526,6 +527,7 @@ func TestDoneEnginesHaveSerialRuns(t *testing.T) {
 
 // P54: a version more, of any key and any action, with the edges of values, in its place and at the end.
 func TestVersionsMoreAreInvalid(t *testing.T) {
+	t.Parallel()
 	someEngines(func(e impl.Engine) {
 		full := len(e.List) == impl.MaxActions
 		for key := range impl.MaxKey + 1 {
@@ -553,6 +555,7 @@ func TestVersionsMoreAreInvalid(t *testing.T) {
 
 // P54: any other versions than those of the results: one twice, one less, one changed in a number, two exchanged, and none.
 func TestOtherVersionsAreInvalid(t *testing.T) {
+	t.Parallel()
 	eachEngine(func(e impl.Engine) {
 		if len(e.Versions) > 0 {
 			checkEngine(t, impl.Engine{Base: e.Base, List: e.List, Slots: e.Slots}, false)
@@ -839,6 +842,7 @@ func otherSlots(s impl.Slot, n int) []impl.Slot {
 
 // Every slot of sample engines with one thing changed, with the versions as they were and as they would be then, against the reference.
 func TestChangedSlotsAreExact(t *testing.T) {
+	t.Parallel()
 	valid, invalid := 0, 0
 	check := func(e impl.Engine) {
 		want := plainEngineValid(e)
@@ -886,6 +890,7 @@ func TestOtherResultsAreInvalid(t *testing.T) {
 
 // The stages of ten actions, each of them new, tried or checked: no action is checked behind one that is not.
 func TestCheckedActionsAreFirst(t *testing.T) {
+	t.Parallel()
 	list := looseLists(impl.MaxActions)[0]
 	for stages := range 59049 {
 		var given []impl.Slot

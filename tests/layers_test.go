@@ -386,6 +386,7 @@ func TestForkLayerValues(t *testing.T) {
 
 // P31: the layers as they were and an empty one, in which everything is seen as in the one below; MaxLayers have no room.
 func TestNewLayersChangeNothing(t *testing.T) {
+	t.Parallel()
 	eachLayer(func(s []impl.Entry, list []impl.Layer, n int) {
 		if len(list) == impl.MaxLayers {
 			checkFork(t, list, n, list, false)
@@ -432,6 +433,7 @@ func TestLayerWriteValues(t *testing.T) {
 
 // P32: the exact layers, what is seen in the layer, and in all others: those that are not over it, and those that are.
 func TestLayersAreWrittenApart(t *testing.T) {
+	t.Parallel()
 	s := fullStore(4, 1)
 	for _, list := range sampleLayers() {
 		for n := range list {

@@ -382,6 +382,7 @@ func TestReadVersionAroundTheAction(t *testing.T) {
 
 // P49: every key as every action reads it, against a reference; the writer is before the action and has this version, or is the store.
 func TestEarlierVersionsAreRead(t *testing.T) {
+	t.Parallel()
 	for _, s := range versionedStores() {
 		for _, list := range sampleVersions() {
 			for key := range impl.MaxKey + 1 {
@@ -540,6 +541,7 @@ func TestPutVersionsAreExact(t *testing.T) {
 
 // P51: the next action reads what was put, and by whom; for a key that was not put it reads what was there without it.
 func TestPutVersionsAreReadByTheNextAction(t *testing.T) {
+	t.Parallel()
 	s := storeOf(0, 1, 3, 9, 4, 4, 31, impl.MaxValue)
 	eachPut(func(list []impl.Version, by int, writes []impl.Entry) {
 		put := mustPutVersions(t, list, by, writes)
@@ -581,6 +583,7 @@ func TestPutVersionsLeaveOthers(t *testing.T) {
 
 // Versions of two actions are put in any order.
 func TestTwoActionsArePutInAnyOrder(t *testing.T) {
+	t.Parallel()
 	for _, list := range sampleVersions() {
 		for a := range impl.MaxActions {
 			for b := range a {
@@ -767,6 +770,7 @@ func TestWrongVersionsAreNotDropped(t *testing.T) {
 }
 
 func TestInvalidStoresHaveNoVersions(t *testing.T) {
+	t.Parallel()
 	for _, s := range invalidStores() {
 		for _, list := range [][]impl.Version{nil, versionsOf(3, 2, 5), fullVersions(1, 1)} {
 			checkLast(t, s, list, nil)
