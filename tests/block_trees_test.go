@@ -386,6 +386,7 @@ func checkNoTree(t *testing.T, tree impl.BlockTree) {
 		checkBefore(t, tree, n, n, false)
 		checkStoreOf(t, tree, n, nil)
 		checkGrow(t, tree, n, impl.MaxView, nil, impl.BlockTree{}, false)
+		checkNoVotes(t, tree, n)
 	}
 }
 
